@@ -14,6 +14,10 @@ func commonDivisor(a, b natural) natural {
 	if compareNaturals(a, b) < 0 {
 		a, b = b, a
 	}
+	if len(b) > 1 {
+		// The steps overwrite both.
+		a, b = slices.Clone(a), slices.Clone(b)
+	}
 	for len(b) > 1 {
 		s := foresee(a, b)
 		if s.v0 == 0 {
@@ -26,8 +30,16 @@ func commonDivisor(a, b natural) natural {
 	if len(b) == 0 {
 		return a
 	}
-	_, rest := divideInPlace(slices.Clone(a), b[0])
-	return natural{wordDivisor(b[0], rest)}
+	return natural{wordDivisor(b[0], remainder(a, b[0]))}
+}
+
+// remainder returns the remainder of a divided by a word above 0.
+func remainder(a natural, b uint64) uint64 {
+	var rest uint64
+	for i := len(a) - 1; i >= 0; i-- {
+		_, rest = bits.Div64(rest, a[i], b)
+	}
+	return rest
 }
 
 // wordDivisor returns the greatest common divisor of two words, the first one above 0.
@@ -76,23 +88,31 @@ func word(a natural, i int) uint64 {
 	return a[i]
 }
 
-// take returns what the steps make of a and b.
+// take makes of a and b what the steps make of them, in their own memory, and returns both.
 func (s steps) take(a, b natural) (natural, natural) {
-	if s.even {
-		return difference(a, s.u0, b, s.v0), difference(b, s.v1, a, s.u1)
+	for len(b) < len(a) {
+		b = append(b, 0)
 	}
-	return difference(b, s.v0, a, s.u0), difference(a, s.u1, b, s.v1)
+	if s.even {
+		subtractCrosswise(a, b, [2]uint64{s.u0, s.v1}, [2]uint64{s.v0, s.u1})
+		return trim(a), trim(b)
+	}
+	subtractCrosswise(b, a, [2]uint64{s.v0, s.u1}, [2]uint64{s.u0, s.v1})
+	return trim(b), trim(a)
 }
 
-// difference returns a x - b y, which is not negative.
-func difference(a natural, x uint64, b natural, y uint64) natural {
-	result := make(natural, max(len(a), len(b))+1)
-	var moreA, moreB, borrow uint64
-	for i := range result {
+// subtractCrosswise makes of a and b, which have as many words, own[0] a - cross[0] b and own[1] b - cross[1] a in place.
+// Both are not negative and have no more words, so what is carried above the highest word cancels out.
+func subtractCrosswise(a, b natural, own, cross [2]uint64) {
+	var ownMore, crossMore, borrow [2]uint64
+	for i := range a {
+		x, y := a[i], b[i]
 		var left, right uint64
-		left, moreA = multiplyWord(word(a, i), x, moreA)
-		right, moreB = multiplyWord(word(b, i), y, moreB)
-		result[i], borrow = bits.Sub64(left, right, borrow)
+		left, ownMore[0] = multiplyWord(x, own[0], ownMore[0])
+		right, crossMore[0] = multiplyWord(y, cross[0], crossMore[0])
+		a[i], borrow[0] = bits.Sub64(left, right, borrow[0])
+		left, ownMore[1] = multiplyWord(y, own[1], ownMore[1])
+		right, crossMore[1] = multiplyWord(x, cross[1], crossMore[1])
+		b[i], borrow[1] = bits.Sub64(left, right, borrow[1])
 	}
-	return trim(result)
 }

@@ -180,6 +180,22 @@ func (a Number) Compare(b Number) int {
 	return size * a.Sign()
 }
 
+// Lesser returns the lesser one of two numbers.
+func Lesser(a, b Number) Number {
+	if a.Compare(b) <= 0 {
+		return a
+	}
+	return b
+}
+
+// Greater returns the greater one of two numbers.
+func Greater(a, b Number) Number {
+	if a.Compare(b) >= 0 {
+		return a
+	}
+	return b
+}
+
 // Floor returns the greatest integer that is at most a.
 func (a Number) Floor() Number {
 	whole, rest := divide(a.top, a.denominator())

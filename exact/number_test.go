@@ -200,3 +200,13 @@ func TestZero(t *testing.T) {
 		t.Error("0 is out of its order")
 	}
 }
+
+func TestLesserAndGreater(t *testing.T) {
+	half, third := number(t, "1/2"), number(t, "1/3")
+	for _, row := range [][2]exact.Number{{half, third}, {third, half}} {
+		same(t, "Lesser", exact.Lesser(row[0], row[1]), big.NewRat(1, 3))
+		same(t, "Greater", exact.Greater(row[0], row[1]), big.NewRat(1, 2))
+	}
+	same(t, "Lesser of equal ones", exact.Lesser(half, half), big.NewRat(1, 2))
+	same(t, "Greater of equal ones", exact.Greater(half, half), big.NewRat(1, 2))
+}

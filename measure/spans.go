@@ -85,22 +85,6 @@ func SubSpans(a, b api.Span) (api.Span, api.Errno) { return operateSpans(a, b, i
 // MulSpans returns the span of the products.
 func MulSpans(a, b api.Span) (api.Span, api.Errno) { return operateSpans(a, b, interval.times) }
 
-// lesser returns the lesser one of two numbers.
-func lesser(a, b exact.Number) exact.Number {
-	if a.Compare(b) <= 0 {
-		return a
-	}
-	return b
-}
-
-// greater returns the greater one of two numbers.
-func greater(a, b exact.Number) exact.Number {
-	if a.Compare(b) >= 0 {
-		return a
-	}
-	return b
-}
-
 // Hull returns the least span that contains all spans of a list.
 func Hull(l []api.Span) (api.Span, api.Errno) {
 	spans, e := readSpans(l)
@@ -109,7 +93,7 @@ func Hull(l []api.Span) (api.Span, api.Errno) {
 	}
 	hull := spans[0]
 	for _, s := range spans {
-		hull = interval{lesser(hull.low, s.low), greater(hull.high, s.high)}
+		hull = interval{exact.Lesser(hull.low, s.low), exact.Greater(hull.high, s.high)}
 	}
 	return writeSpan(hull)
 }
@@ -122,7 +106,7 @@ func Meet(l []api.Span) (api.Span, api.Errno) {
 	}
 	meet := spans[0]
 	for _, s := range spans {
-		meet = interval{greater(meet.low, s.low), lesser(meet.high, s.high)}
+		meet = interval{exact.Greater(meet.low, s.low), exact.Lesser(meet.high, s.high)}
 	}
 	if meet.low.Compare(meet.high) > 0 {
 		return api.Span{}, api.ErrConflict
