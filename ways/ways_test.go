@@ -21,6 +21,7 @@ func waysOfLayers() map[string][]string {
 	return map[string][]string{
 		"measure": {"range-string", "function-field", "map", "method-expression", "generic-function", "label"},
 		"grade":   {"function-field", "map", "generic-function", "generic-type", "range-function", "variadic", "struct-compared"},
+		"weigh":   {"embedding", "promoted", "array", "range-function", "label"},
 	}
 }
 
@@ -159,8 +160,11 @@ func (m *module) note(found map[string]bool, n ast.Node) {
 		found["generic-type"] = found["generic-type"] || n.TypeParams != nil
 	case *ast.StructType:
 		for _, f := range n.Fields.List {
+			found["embedding"] = found["embedding"] || len(f.Names) == 0
 			found["function-field"] = found["function-field"] || is[*types.Signature](m, f.Type)
 		}
+	case *ast.ArrayType:
+		found["array"] = found["array"] || n.Len != nil
 	case *ast.RangeStmt:
 		found["range-function"] = found["range-function"] || is[*types.Signature](m, n.X)
 		basic, _ := m.under(n.X).(*types.Basic)
@@ -168,6 +172,7 @@ func (m *module) note(found map[string]bool, n ast.Node) {
 	case *ast.SelectorExpr:
 		s := m.info.Selections[n]
 		found["method-expression"] = found["method-expression"] || s != nil && s.Kind() == types.MethodExpr
+		found["promoted"] = found["promoted"] || s != nil && len(s.Index()) > 1
 	case *ast.BinaryExpr:
 		isComparison := n.Op == token.EQL || n.Op == token.NEQ
 		found["struct-compared"] = found["struct-compared"] || isComparison && is[*types.Struct](m, n.X)
