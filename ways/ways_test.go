@@ -22,6 +22,7 @@ func waysOfLayers() map[string][]string {
 		"measure": {"range-string", "function-field", "map", "method-expression", "generic-function", "label"},
 		"grade":   {"function-field", "map", "generic-function", "generic-type", "range-function", "variadic", "struct-compared"},
 		"weigh":   {"embedding", "promoted", "array", "range-function", "label"},
+		"bin":     {"range-function", "closure", "variadic", "generic-function", "map", "range-map"},
 	}
 }
 
@@ -152,6 +153,8 @@ func (m *module) note(found map[string]bool, n ast.Node) {
 		found["label"] = true
 	case *ast.MapType:
 		found["map"] = true
+	case *ast.FuncLit:
+		found["closure"] = true
 	case *ast.Ellipsis:
 		found["variadic"] = found["variadic"] || n.Elt != nil
 	case *ast.FuncDecl:
@@ -167,6 +170,7 @@ func (m *module) note(found map[string]bool, n ast.Node) {
 		found["array"] = found["array"] || n.Len != nil
 	case *ast.RangeStmt:
 		found["range-function"] = found["range-function"] || is[*types.Signature](m, n.X)
+		found["range-map"] = found["range-map"] || is[*types.Map](m, n.X)
 		basic, _ := m.under(n.X).(*types.Basic)
 		found["range-string"] = found["range-string"] || basic != nil && basic.Info()&types.IsString != 0
 	case *ast.SelectorExpr:
