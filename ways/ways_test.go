@@ -23,6 +23,7 @@ func waysOfLayers() map[string][]string {
 		"grade":   {"function-field", "map", "generic-function", "generic-type", "range-function", "variadic", "struct-compared"},
 		"weigh":   {"embedding", "promoted", "array", "range-function", "label"},
 		"bin":     {"range-function", "closure", "variadic", "generic-function", "map", "range-map"},
+		"path":    {"constant-table", "iota", "range-function", "array-compared", "closure", "array", "label"},
 	}
 }
 
@@ -115,15 +116,14 @@ func featuresOf(t *testing.T, layer string) map[string]bool {
 				}
 			case *ast.GenDecl:
 				for _, s := range d.Specs {
-					if s, ok := s.(*ast.TypeSpec); ok {
-						declarations[m.info.Defs[s.Name]] = s
-					}
+					m.declare(declarations, d, s)
 				}
 			}
 		}
 	}
 	found := map[string]bool{}
 	for i := 0; i < len(reached); i++ {
+		found["constant-table"] = found["constant-table"] || isTable(declarations[reached[i]])
 		ast.Inspect(declarations[reached[i]], func(n ast.Node) bool {
 			m.note(found, n)
 			if name, ok := n.(*ast.Ident); ok {
@@ -136,6 +136,22 @@ func featuresOf(t *testing.T, layer string) map[string]bool {
 		})
 	}
 	return found
+}
+
+// declare adds what is declared at the package level outside functions to declarations.
+func (m *module) declare(declarations map[types.Object]ast.Node, d *ast.GenDecl, s ast.Spec) {
+	switch s := s.(type) {
+	case *ast.TypeSpec:
+		declarations[m.info.Defs[s.Name]] = s
+	case *ast.ValueSpec:
+		for _, name := range s.Names {
+			declarations[m.info.Defs[name]] = s
+			if d.Tok == token.CONST {
+				// A constant can repeat the expression of one above it.
+				declarations[m.info.Defs[name]] = d
+			}
+		}
+	}
 }
 
 // origin returns the declared function of an instance of a generic one.
@@ -180,8 +196,11 @@ func (m *module) note(found map[string]bool, n ast.Node) {
 	case *ast.BinaryExpr:
 		isComparison := n.Op == token.EQL || n.Op == token.NEQ
 		found["struct-compared"] = found["struct-compared"] || isComparison && is[*types.Struct](m, n.X)
+		found["array-compared"] = found["array-compared"] || isComparison && is[*types.Array](m, n.X)
 	case *ast.Ident:
-		found["struct-compared"] = found["struct-compared"] || m.comparesStructs(n)
+		found["struct-compared"] = found["struct-compared"] || compares[*types.Struct](m, n)
+		found["array-compared"] = found["array-compared"] || compares[*types.Array](m, n)
+		found["iota"] = found["iota"] || m.info.Uses[n] == types.Universe.Lookup("iota")
 	}
 }
 
@@ -199,8 +218,17 @@ func is[T types.Type](m *module, e ast.Expr) bool {
 	return ok
 }
 
-// comparesStructs reports whether a name is that of a generic function, such as slices.Contains, that compares values, here structs.
-func (m *module) comparesStructs(name *ast.Ident) bool {
+// isTable reports whether a declaration at the package level is a variable with a written-out value.
+func isTable(declaration ast.Node) bool {
+	s, ok := declaration.(*ast.ValueSpec)
+	return ok && slices.ContainsFunc(s.Values, func(e ast.Expr) bool {
+		_, isWrittenOut := e.(*ast.CompositeLit)
+		return isWrittenOut
+	})
+}
+
+// compares reports whether a name is that of a generic function, such as slices.Contains, that compares values of a kind of type.
+func compares[T types.Type](m *module, name *ast.Ident) bool {
 	instance, ok := m.info.Instances[name]
 	f, isFunction := m.info.Uses[name].(*types.Func)
 	if !ok || !isFunction {
@@ -209,8 +237,8 @@ func (m *module) comparesStructs(name *ast.Ident) bool {
 	parameters := f.Signature().TypeParams()
 	for i := range min(parameters.Len(), instance.TypeArgs.Len()) {
 		constraint, _ := parameters.At(i).Constraint().Underlying().(*types.Interface)
-		_, isStruct := instance.TypeArgs.At(i).Underlying().(*types.Struct)
-		if isStruct && constraint != nil && constraint.IsComparable() {
+		_, isOfKind := instance.TypeArgs.At(i).Underlying().(T)
+		if isOfKind && constraint != nil && constraint.IsComparable() {
 			return true
 		}
 	}
