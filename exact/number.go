@@ -204,3 +204,8 @@ func (a Number) Floor() Number {
 	}
 	return number(a.negative, whole, nil)
 }
+
+// Ceiling returns the least integer that is at least a.
+func (a Number) Ceiling() Number {
+	return a.Negated().Floor().Negated()
+}

@@ -93,6 +93,11 @@ func TestOperationsAgainstBig(t *testing.T) {
 		}
 		floor := new(big.Int).Div(x.Num(), x.Denom())
 		same(t, "Floor", a.Floor(), new(big.Rat).SetInt(floor))
+		ceiling := floor
+		if !x.IsInt() {
+			ceiling = new(big.Int).Add(floor, big.NewInt(1))
+		}
+		same(t, "Ceiling", a.Ceiling(), new(big.Rat).SetInt(ceiling))
 		if got := a.Compare(b); got != x.Cmp(y) {
 			t.Fatalf("Compare of %v and %v: got %d", x, y, got)
 		}

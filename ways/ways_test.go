@@ -24,6 +24,7 @@ func waysOfLayers() map[string][]string {
 		"weigh":   {"embedding", "promoted", "array", "range-function", "label"},
 		"bin":     {"range-function", "closure", "variadic", "generic-function", "map", "range-map"},
 		"path":    {"constant-table", "iota", "range-function", "array-compared", "closure", "array", "label"},
+		"dry":     {"closure", "function-field", "generic-function", "range-function", "variadic", "array", "label"},
 	}
 }
 
