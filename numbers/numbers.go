@@ -3,6 +3,8 @@
 package numbers
 
 import (
+	"strings"
+
 	"bushel/api"
 	"bushel/exact"
 	"bushel/measure"
@@ -24,6 +26,12 @@ func Write(n exact.Number) (api.Rat, api.Errno) {
 		return "", api.ErrLarge
 	}
 	return api.Rat(text), api.OK
+}
+
+// Greatest returns the greatest number that is not too long for a result.
+func Greatest() exact.Number {
+	n, _ := exact.Read(strings.Repeat("9", api.MaxDigits))
+	return n
 }
 
 // Interval is a span that has been read.

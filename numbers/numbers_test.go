@@ -21,6 +21,13 @@ func expect(t *testing.T, what string, got, want any) {
 // nines returns the greatest number with so many digits.
 func nines(digits int) string { return strings.Repeat("9", digits) }
 
+func TestGreatest(t *testing.T) {
+	a, e := numbers.Write(numbers.Greatest())
+	expect(t, "the greatest number", []any{a, e}, []any{api.Rat(nines(api.MaxDigits)), api.OK})
+	_, e = numbers.Write(numbers.Greatest().Plus(exact.Whole(1)))
+	expect(t, "one more", e, api.ErrLarge)
+}
+
 func TestReadAndWrite(t *testing.T) {
 	for _, text := range []string{"0", "-7", "3/2", "-1/3", nines(600), "-1/" + nines(600)} {
 		n, e := numbers.Read(api.Rat(text))

@@ -25,6 +25,7 @@ func waysOfLayers() map[string][]string {
 		"bin":     {"range-function", "closure", "variadic", "generic-function", "map", "range-map"},
 		"path":    {"constant-table", "iota", "range-function", "array-compared", "closure", "array", "label"},
 		"dry":     {"closure", "function-field", "generic-function", "range-function", "variadic", "array", "label"},
+		"blend":   {"closure", "range-function", "generic-function", "label", "embedding"},
 	}
 }
 
