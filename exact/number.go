@@ -23,7 +23,7 @@ func number(negative bool, top, bottom natural) Number {
 	return Number{negative && len(top) > 0, top, bottom}
 }
 
-// denominator returns the denominator, also that of a whole number.
+// denominator returns the denominator as a natural number, also that of a whole number.
 func (a Number) denominator() natural {
 	if len(a.bottom) == 0 {
 		return natural{1}
@@ -105,6 +105,11 @@ func (a Number) Int() (int, bool) {
 // IsWhole reports whether a number is an integer.
 func (a Number) IsWhole() bool {
 	return len(a.bottom) == 0
+}
+
+// Denominator returns the denominator, which is above 0.
+func (a Number) Denominator() Number {
+	return number(false, a.denominator(), nil)
 }
 
 // Sign returns -1, 0 or 1.

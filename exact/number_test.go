@@ -98,6 +98,7 @@ func TestOperationsAgainstBig(t *testing.T) {
 			ceiling = new(big.Int).Add(floor, big.NewInt(1))
 		}
 		same(t, "Ceiling", a.Ceiling(), new(big.Rat).SetInt(ceiling))
+		same(t, "Denominator", a.Denominator(), new(big.Rat).SetInt(x.Denom()))
 		if got := a.Compare(b); got != x.Cmp(y) {
 			t.Fatalf("Compare of %v and %v: got %d", x, y, got)
 		}

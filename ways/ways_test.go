@@ -26,6 +26,7 @@ func waysOfLayers() map[string][]string {
 		"path":    {"constant-table", "iota", "range-function", "array-compared", "closure", "array", "label"},
 		"dry":     {"closure", "function-field", "generic-function", "range-function", "variadic", "array", "label"},
 		"blend":   {"closure", "range-function", "generic-function", "label", "embedding"},
+		"load":    {"function-field", "array", "closure", "map", "range-function", "three-index", "generic-function", "label"},
 	}
 }
 
@@ -191,6 +192,8 @@ func (m *module) note(found map[string]bool, n ast.Node) {
 		found["range-map"] = found["range-map"] || is[*types.Map](m, n.X)
 		basic, _ := m.under(n.X).(*types.Basic)
 		found["range-string"] = found["range-string"] || basic != nil && basic.Info()&types.IsString != 0
+	case *ast.SliceExpr:
+		found["three-index"] = found["three-index"] || n.Slice3
 	case *ast.SelectorExpr:
 		s := m.info.Selections[n]
 		found["method-expression"] = found["method-expression"] || s != nil && s.Kind() == types.MethodExpr
