@@ -240,6 +240,16 @@ func readDigits(digits string) natural {
 	return a
 }
 
+// hasDigits reports whether a number has at most so many decimal digits.
+func hasDigits(a natural, most int) bool {
+	// 2^33 is less than 10^10: a number that is short enough at a glance need not be written.
+	if bitLength(a)*10 <= (most-1)*33 {
+		return true
+	}
+	_, fits := writeDigits(a, most)
+	return fits
+}
+
 // writeDigits returns the decimal digits, if there are at most so many.
 func writeDigits(a natural, most int) (string, bool) {
 	// Ten bits are more than three digits: a number far too long is refused without the labour of writing it.

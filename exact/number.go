@@ -87,6 +87,9 @@ func (a Number) Text(most int) (string, bool) {
 	return text + "/" + below, true
 }
 
+// Fits reports whether neither numerator nor denominator has more digits than most, so that the number has a text.
+func (a Number) Fits(most int) bool { return hasDigits(a.top, most) && hasDigits(a.bottom, most) }
+
 // Int returns a number as a machine integer, and false if it is not one.
 func (a Number) Int() (int, bool) {
 	switch {

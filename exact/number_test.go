@@ -78,6 +78,32 @@ func randomPair(r *rand.Rand, words int) (*big.Rat, *big.Rat) {
 	return one(), one()
 }
 
+// TestFits checks that a number fits exactly if it has a text.
+func TestFits(t *testing.T) {
+	r := rand.New(rand.NewSource(7))
+	expectFits := func(n exact.Number, most int) {
+		t.Helper()
+		_, want := n.Text(most)
+		if got := n.Fits(most); got != want {
+			t.Fatalf("Fits(%d): got %v, want %v", most, got, want)
+		}
+	}
+	for _, digits := range []int{1, 2, 10, 19, 20, 21, 100, 599, 600} {
+		least, greatest := "1"+strings.Repeat("0", digits), strings.Repeat("9", digits)
+		for _, text := range []string{"0", least, greatest, "-" + least, "-" + greatest, "1/" + least, "1/" + greatest} {
+			for most := digits - 1; most <= digits+2; most++ {
+				if most > 0 {
+					expectFits(number(t, text), most)
+				}
+			}
+		}
+	}
+	for range 5000 {
+		a, _ := randomPair(r, 9)
+		expectFits(ofBig(t, a), 1+r.Intn(200))
+	}
+}
+
 func TestOperationsAgainstBig(t *testing.T) {
 	r := rand.New(rand.NewSource(1))
 	for i := range 20000 {

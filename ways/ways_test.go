@@ -27,6 +27,7 @@ func waysOfLayers() map[string][]string {
 		"dry":     {"closure", "function-field", "generic-function", "range-function", "variadic", "array", "label"},
 		"blend":   {"closure", "range-function", "generic-function", "label", "embedding"},
 		"load":    {"function-field", "array", "closure", "map", "range-function", "three-index", "generic-function", "label"},
+		"ledger":  {"map", "method-value", "range-function", "function-field", "constant-table", "closure", "range-integer"},
 	}
 }
 
@@ -126,9 +127,14 @@ func featuresOf(t *testing.T, layer string) map[string]bool {
 	}
 	found := map[string]bool{}
 	for i := 0; i < len(reached); i++ {
+		called := calledIn(declarations[reached[i]])
 		found["constant-table"] = found["constant-table"] || isTable(declarations[reached[i]])
 		ast.Inspect(declarations[reached[i]], func(n ast.Node) bool {
 			m.note(found, n)
+			if s, ok := n.(*ast.SelectorExpr); ok && !called[s] {
+				selection := m.info.Selections[s]
+				found["method-value"] = found["method-value"] || selection != nil && selection.Kind() == types.MethodVal
+			}
 			if name, ok := n.(*ast.Ident); ok {
 				o := origin(m.info.Uses[name])
 				if declarations[o] != nil && !slices.Contains(reached, o) {
@@ -139,6 +145,18 @@ func featuresOf(t *testing.T, layer string) map[string]bool {
 		})
 	}
 	return found
+}
+
+// calledIn returns the expressions that are called in a declaration.
+func calledIn(declaration ast.Node) map[ast.Expr]bool {
+	called := map[ast.Expr]bool{}
+	ast.Inspect(declaration, func(n ast.Node) bool {
+		if c, ok := n.(*ast.CallExpr); ok {
+			called[ast.Unparen(c.Fun)] = true
+		}
+		return true
+	})
+	return called
 }
 
 // declare adds what is declared at the package level outside functions to declarations.
@@ -192,6 +210,7 @@ func (m *module) note(found map[string]bool, n ast.Node) {
 		found["range-map"] = found["range-map"] || is[*types.Map](m, n.X)
 		basic, _ := m.under(n.X).(*types.Basic)
 		found["range-string"] = found["range-string"] || basic != nil && basic.Info()&types.IsString != 0
+		found["range-integer"] = found["range-integer"] || basic != nil && basic.Info()&types.IsInteger != 0
 	case *ast.SliceExpr:
 		found["three-index"] = found["three-index"] || n.Slice3
 	case *ast.SelectorExpr:
