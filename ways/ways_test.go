@@ -19,15 +19,16 @@ import (
 // waysOfLayers are the features of the layers that are built.
 func waysOfLayers() map[string][]string {
 	return map[string][]string{
-		"measure": {"range-string", "function-field", "map", "method-expression", "generic-function", "label"},
-		"grade":   {"function-field", "map", "generic-function", "generic-type", "range-function", "variadic", "struct-compared"},
-		"weigh":   {"embedding", "promoted", "array", "range-function", "label"},
-		"bin":     {"range-function", "closure", "variadic", "generic-function", "map", "range-map"},
-		"path":    {"constant-table", "iota", "range-function", "array-compared", "closure", "array", "label"},
-		"dry":     {"closure", "function-field", "generic-function", "range-function", "variadic", "array", "label"},
-		"blend":   {"closure", "range-function", "generic-function", "label", "embedding"},
-		"load":    {"function-field", "array", "closure", "map", "range-function", "three-index", "generic-function", "label"},
-		"ledger":  {"map", "method-value", "range-function", "function-field", "constant-table", "closure", "range-integer"},
+		"measure":  {"range-string", "function-field", "map", "method-expression", "generic-function", "label"},
+		"grade":    {"function-field", "map", "generic-function", "generic-type", "range-function", "variadic", "struct-compared"},
+		"weigh":    {"embedding", "promoted", "array", "range-function", "label"},
+		"bin":      {"range-function", "closure", "variadic", "generic-function", "map", "range-map"},
+		"path":     {"constant-table", "iota", "range-function", "array-compared", "closure", "array", "label"},
+		"dry":      {"closure", "function-field", "generic-function", "range-function", "variadic", "array", "label"},
+		"blend":    {"closure", "range-function", "generic-function", "label", "embedding"},
+		"load":     {"function-field", "array", "closure", "map", "range-function", "three-index", "generic-function", "label"},
+		"ledger":   {"map", "method-value", "range-function", "function-field", "constant-table", "closure", "range-integer"},
+		"terminal": {"function-field", "map", "method-value", "range-function", "copy", "variadic"},
 	}
 }
 
@@ -115,7 +116,7 @@ func featuresOf(t *testing.T, layer string) map[string]bool {
 			case *ast.FuncDecl:
 				o := m.info.Defs[d.Name]
 				declarations[o] = d
-				if d.Recv == nil && d.Name.IsExported() {
+				if d.Name.IsExported() {
 					reached = append(reached, o)
 				}
 			case *ast.GenDecl:
@@ -225,6 +226,7 @@ func (m *module) note(found map[string]bool, n ast.Node) {
 		found["struct-compared"] = found["struct-compared"] || compares[*types.Struct](m, n)
 		found["array-compared"] = found["array-compared"] || compares[*types.Array](m, n)
 		found["iota"] = found["iota"] || m.info.Uses[n] == types.Universe.Lookup("iota")
+		found["copy"] = found["copy"] || m.info.Uses[n] == types.Universe.Lookup("copy")
 	}
 }
 
